@@ -1,0 +1,1 @@
+"""Sharedscopes: many editors of one program."""
