@@ -1,0 +1,71 @@
+"""The interface: each name is defined in its own file, and takes the arguments that the document lists."""
+
+import ast
+import importlib
+import inspect
+import unittest
+from pathlib import Path
+
+PACKAGE = Path(__file__).parent.parent / "sharedscopes"
+
+FUNCTIONS = {
+    "deeds": """is_name(value) is_stamp(value) is_body(value) is_deed(value) is_mark(deed) named_by(deed)
+        time_seen(deed,hand) does_hold(kind)""",
+    "books": "has_seen(book,one,other) are_apart(book,one,other)",
+    "branches": """is_branch(book,value) all_of(book) closure_of(book,stamp) joined_branch(book,one,other)
+        common_branch(book,one,other) heads_of(book,branch) branch_of(book,stamps) part_of(book,branch)
+        news_of(book,branch,other) lacks_of(book,branch,stamp) all_branches(book)""",
+    "marks": """does_count(book,stamp) does_turn(book,stamp) alive_deeds(book) alive_without(book,stamps)
+        line_of(book,hand) next_undo(book,hand) next_redo(book,hand) marks_to(book,branch)
+        marks_of(book,branch,hand)""",
+    "plays": "play_of(book,without=()) accepts_play(book,value) row_of(book,stamp) placings_of(book,thing)",
+    "states": "ends_of(state) at_branch(book,branch)",
+    "late": """is_change(book,value) changed_rows(book,change) ways_out(book,stamp) is_safe(book,stamp) front_of(book)
+        settled_rows(book)""",
+    "fates": """fate_of(book,stamp) fates_of(book,without=()) gone_paper(book,stamp) accepts_gone(book,value)""",
+    "slots": """slot_of(deed) writes_of(deed) done_of(book,slot) rivals_of(book,slot) is_open(book,slot)
+        open_slots(book) clashes_now(book) clashes(book)""",
+}
+
+METHODS = {
+    ("books", "Book"): """__init__(self,deeds=()) deeds(self) listed(self) last(self,hand) with_deeds(self,more)
+        followed(self,hand,bodies) __getitem__(self,at) __contains__(self,x) __len__(self) __iter__(self)
+        __eq__(self,other)""",
+    ("states", "State"): """__init__(self,book,without=()) things(self) is_there(self,value) is_in(self,value)
+        kind(self,thing) content(self,thing) place(self,thing) under(self,thing) holder(self,thing) below(self,thing)
+        line(self) __eq__(self,other)""",
+}
+
+
+def defined(module):
+    """The functions and classes that the module's file defines."""
+    tree = ast.parse((PACKAGE / f"{module}.py").read_text())
+    return {node.name: node for node in tree.body if isinstance(node, (ast.FunctionDef, ast.ClassDef))}
+
+
+def shown(name, what):
+    """The name and the parameters as they stand in the tables above."""
+    return name + str(inspect.signature(what)).replace(" ", "")
+
+
+class InterfaceTest(unittest.TestCase):
+    def test_functions(self):
+        for module, rows in FUNCTIONS.items():
+            found = importlib.import_module(f"sharedscopes.{module}")
+            for row in rows.split():
+                name = row.split("(")[0]
+                self.assertIn(name, defined(module))
+                self.assertEqual(row, shown(name, getattr(found, name)))
+
+    def test_methods_are_defined_in_the_class_itself(self):
+        for (module, name), rows in METHODS.items():
+            found = getattr(importlib.import_module(f"sharedscopes.{module}"), name)
+            methods = {node.name for node in defined(module)[name].body if isinstance(node, ast.FunctionDef)}
+            for row in rows.split():
+                method = row.split("(")[0]
+                self.assertIn(method, methods)
+                self.assertEqual(row, shown(method, getattr(found, method)))
+
+    def test_the_package_imports_nothing_by_itself(self):
+        tree = ast.parse((PACKAGE / "__init__.py").read_text())
+        self.assertEqual([], [node for node in ast.walk(tree) if isinstance(node, (ast.Import, ast.ImportFrom))])
