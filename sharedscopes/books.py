@@ -1,7 +1,8 @@
 """Books: sets of deeds, each of which has seen what it builds on."""
 
 from sharedscopes.basics import are_at_most, is_listing
-from sharedscopes.deeds import MOST_TIME, check_hand, has_seen_stamp, is_body, is_deed, is_stamp, names_in
+from sharedscopes.deeds import (MOST_TIME, ROOT, check_hand, has_seen_stamp, is_body, is_deed, is_stamp, names_in,
+                                thing_of, under_of)
 from sharedscopes.errors import NoBody, NoBook, NoStamp, NoStamps, NotClosed, TooMany, Unseen
 
 MOST_DEEDS = 60
@@ -130,6 +131,22 @@ def check_stamps(book, stamps):
         if stamp not in book or stamp in ahead:
             raise NoStamps(at)
         ahead.add(stamp)
+
+
+def are_stamps(book, value):
+    """Whether any value is a tuple, not empty, of stamps of the book."""
+    return isinstance(value, tuple) and len(value) > 0 and all([stamp in book for stamp in value])
+
+
+def things_named(book, stamp):
+    """The stamps that an ordinary deed names as thing and as under, in this order, without the root."""
+    body = book[stamp][2]
+    return [name for name in (thing_of(body), under_of(body)) if name is not None and name != ROOT]
+
+
+def makes_named(book, stamp):
+    """Those of the stamps that an ordinary deed names as thing and as under that are of makes, in this order."""
+    return [name for name in things_named(book, stamp) if book[name][2][0] == "make"]
 
 
 def stand_apart(book, one, other):

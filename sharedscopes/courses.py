@@ -85,7 +85,12 @@ class Course:
 
 def course_of(book, without):
     """The course of the book's play, as if the deeds of these stamps were not there."""
+    return course_by(book, living(book, without))
+
+
+def course_by(book, stamps):
+    """The course in which just these ordinary deeds are done, in the order in which they are told."""
     course = Course()
-    for stamp in living(book, without):
+    for stamp in stamps:
         course.run(book[stamp])
     return course

@@ -1,9 +1,10 @@
 """Fates: what has become of each ordinary deed, and papers that show why some are gone."""
 
 from sharedscopes.basics import is_like, is_tuple_of
-from sharedscopes.books import check_book, check_stamp, check_stamps, stand_apart
+from sharedscopes.books import (are_stamps, check_book, check_stamp, check_stamps, makes_named, stand_apart,
+                                things_named)
 from sharedscopes.courses import course_of
-from sharedscopes.deeds import ROOT, does_mark, has_seen_stamp, thing_of, under_of
+from sharedscopes.deeds import does_mark, has_seen_stamp
 from sharedscopes.errors import NoStamp
 from sharedscopes.marks import is_living, mark_table
 from sharedscopes.slots import done_by_slot
@@ -52,7 +53,7 @@ def gone_paper(book, stamp):
 def accepts_gone(book, value):
     """Whether any value is a right paper of a gone deed."""
     check_book(book)
-    if not is_tuple_of(value, 2) or not is_like(value[0], "gone") or not _are_stamps(book, value[1]):
+    if not is_tuple_of(value, 2) or not is_like(value[0], "gone") or not are_stamps(book, value[1]):
         return False
     stamps = value[1]
     course = course_of(book, ())
@@ -74,25 +75,13 @@ def _fate_of_row(book, row):
     return (outcome, max(apart, default=None))
 
 
-def _are_stamps(book, value):
-    """Whether any value is a tuple, not empty, of stamps of the book."""
-    return isinstance(value, tuple) and len(value) > 0 and all([stamp in book for stamp in value])
-
-
-def _names(book, stamp):
-    """The stamps, of the book, that the deed names as thing and as under, in this order."""
-    body = book[stamp][2]
-    return [name for name in (thing_of(body), under_of(body)) if name is not None and name != ROOT]
-
-
 def _missing(book, course, stamp):
     """The makes that the deed names as thing and as under, and that are not there."""
-    makes = [name for name in _names(book, stamp) if book[name][2][0] == "make"]
-    return [name for name in makes if name not in course.kinds]
+    return [name for name in makes_named(book, stamp) if name not in course.kinds]
 
 
 def _is_gone_by_kind(book, course, stamp):
     """Whether the deed is gone by what it is and names, and not by a make that is missing."""
-    if not all([book[name][2][0] == "make" for name in _names(book, stamp)]):
+    if things_named(book, stamp) != makes_named(book, stamp):
         return True
     return course.misfits(book[stamp][2])

@@ -91,6 +91,20 @@ def check_state(state):
         raise NoState(state)
 
 
+def check_in(state, thing):
+    """Refuse what is no state, then what is no thing that is in."""
+    check_state(state)
+    if not state.is_in(thing):
+        raise NoThing(thing)
+
+
+def check_kind(state, thing, kind):
+    """Refuse what is no state, then what is no thing of this kind that is in."""
+    check_in(state, thing)
+    if state.kind(thing) != kind:
+        raise NoThing(thing)
+
+
 def ends_of(state):
     """The things that are in, as they end, the root last."""
     check_state(state)

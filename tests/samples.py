@@ -46,17 +46,23 @@ class Case(unittest.TestCase):
 
     def refuses_stamps(self, error, call, book):
         """The call refuses whatever is no list or tuple of unlike stamps of the book, which has at least two."""
-        one, other = book.listed()[:2]
-        for value in (None, True, False, 0, 1, "", "ab", {}, set(), {one: True}, book, object(), iter([one]), 1.0):
+        self.refuses_rows(error, call, book.listed())
+        self.refused(error, None, call, book)
+
+    def refuses_rows(self, error, call, good, twice=False):
+        """The call refuses whatever is no list or tuple of good stamps, unlike ones but where they may stand twice."""
+        one, other = good[:2]
+        for value in (None, True, False, 0, 1, "", "ab", {}, set(), {one: True}, object(), iter([one]), 1.0):
             self.refused(error, None, call, value)
         for value in STRANGE:
-            if value not in book:
+            if repr(value) not in [repr(stamp) for stamp in good]:
                 self.refused(error, 0, call, [value])
                 self.refused(error, 1, call, (one, value))
-                self.refused(error, 1, call, [other, value, one, one])
-        self.refused(error, 1, call, [one, one])
-        self.refused(error, 2, call, (one, other, one))
+                self.refused(error, 1, call, [other, value, None, one])
         self.refused(error, 0, call, [ROOT])
+        if not twice:
+            self.refused(error, 1, call, [one, one])
+            self.refused(error, 2, call, (one, other, one))
 
 
 def deed(time, hand, seen, *body):

@@ -23,6 +23,24 @@ FUNCTIONS = {
     "late": """is_change(book,value) changed_rows(book,change) ways_out(book,stamp) is_safe(book,stamp) front_of(book)
         settled_rows(book)""",
     "fates": """fate_of(book,stamp) fates_of(book,without=()) gone_paper(book,stamp) accepts_gone(book,value)""",
+    "hangs": """needs_of(book,stamp) hangers_of(book,stamps) hurt_hands(book,stamps) clean_set(book,stamps)
+        awaiting_of(book,stamp) hanger_paper(book,stamps,hanger) accepts_hanger(book,stamps,value)""",
+    "scopes": """nearest_let(state,thing) visible_lets(state,thing) scope_of(state,let) told_use(state,use)
+        uses_of(state,let) lost_uses(state) depth_of(state,let) lets_in(state)""",
+    "gaps": """gaps_of(state,thing) gap_sees(state,thing,gap,let) let_scope(state,thing,gap) demands_of(state,thing)
+        kept_at(state,thing,gap) most_kept(state,thing) best_gaps(state,thing) free_runs(state,thing)
+        keys_at(state,thing,gap) best_move(state,thing) narrowest_gap(state,things)""",
+    "gappapers": "at_odds(state,thing,one,other) gap_paper(state,thing) accepts_gap(state,thing,value)",
+    "meets": """is_written(value) is_naming(state,value) live_points(state,let) do_meet(state,one,other)
+        ranked_lets(state) read_as(state,naming,use) is_right(state,naming) wrong_paper(state,naming)
+        accepts_wrong(state,naming,value)""",
+    "kept": """most_paper(state,lets,weights=None) accepts_most(state,lets,value,weights=None)
+        how_taken(state,lets,let,weights=None) least_weight(state,lets,let,weights=None)""",
+    "namings": """told_naming(state,weights=None) fewest_names(state) plain_naming(state)
+        mended_naming(state,old,weights=None) in_the_way(state,naming,let,name)""",
+    "grammar": "plain_of(text) is_text(value) spans_of(text) item_at(text,index)",
+    "reading": "read_shape(text) meant_lets(text) made_of(text)",
+    "writing": "text_by(state,naming) text_of(state,weights=None) shape_of(state) are_alike(one,other)",
     "slots": """slot_of(deed) writes_of(deed) done_of(book,slot) rivals_of(book,slot) is_open(book,slot)
         open_slots(book) clashes_now(book) clashes(book)""",
 }

@@ -166,6 +166,19 @@ class LanguageTest(unittest.TestCase):
                     name = func.id if isinstance(func, ast.Name) else getattr(func, "attr", None)
                     self.assertNotIn(name, VIEWS, (path, node.lineno))
 
+    def test_reversed_takes_only_plain_lists(self):
+        for path, tree in trees():
+            for node in ast.walk(tree):
+                if isinstance(node, ast.Call) and isinstance(node.func, ast.Name) and node.func.id == "reversed":
+                    name = getattr(getattr(node.args[0], "func", None), "id", None)
+                    self.assertIn(name, ("list", "tuple", "sorted", "range"), (path, node.lineno))
+
+    def test_stars_in_calls_stand_over_names(self):
+        for path, tree in trees():
+            for node in ast.walk(tree):
+                if isinstance(node, ast.Starred):
+                    self.assertIsInstance(node.value, (ast.Name, ast.Attribute), (path, node.lineno))
+
     def test_sets_are_only_asked(self):
         for path, tree in trees():
             for made in [node for node in ast.walk(tree) if isinstance(node, ast.FunctionDef)]:
