@@ -55,11 +55,12 @@ class Rest:
         """Take in the uses that want a let of the rest, each with it, and those that want the thing, with None."""
         moved = [thing] + state.below(thing)
         wanted = {use: state.content(use) for use in moved if state.kind(use) == "use"}
-        demands = [(use, let) for use, let in wanted.items() if let in self.tree.lets]
+        rows = [(use, let) for use, let in wanted.items() if let in self.tree.lets]
         if state.kind(thing) == "let":
             uses = [use for use in self.tree.order if state.kind(use) == "use"]
-            demands.extend([(use, None) for use in uses if state.content(use) == thing])
-        for use, let in sorted(demands, key=_first):
+            rows.extend([(use, None) for use in uses if state.content(use) == thing])
+        # A use stands in one row only, but None and a let are not ordered.
+        for use, let in sorted(rows, key=_first):
             self.demands[use] = let
 
 

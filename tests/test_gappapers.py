@@ -75,7 +75,8 @@ class PaperTest(Case):
                      (((2, 0), (3, 0), (5, 0)),), (((2, 0), (5, 0)), ((3, 0),)), (((2, 0),), ((3, 0), (5, 0))),
                      (one, ((5, 0), (5, 0))), (((2, 0), (2, 0), (3, 0)), two), (one, ((5, False),)), (one, ([5, 0],)),
                      (one, ((4, 0),)), (one, (ROOT,)), (one, (None,)), (one, None), None, 2, "ab", (), ((), ()),
-                     (one, (two,)), (one, (5, 0))):
+                     (one, (two,)), (one, (5, 0)), (((2, 0), None), two), (((2, 0), (3, "0")), two),
+                     (((2, 0), 3), two)):
             self.assertIs(False, accepts_gap(ODDS, (1, 0), ("gap", gap, bent)), bent)
         for bent in (*STRANGE, (ROOT, 1), (ROOT, 4), (ROOT, False), [ROOT, 0], ((False, 0), 0), ((1, 0), 0), ((9, 0), 0)):
             self.assertIs(False, accepts_gap(ODDS, (1, 0), ("gap", bent, (one, two))), bent)
@@ -125,6 +126,18 @@ class RandomTest(Case):
             self.assertIs(True, accepts_gap(state, thing, paper))
             at_odds_found += len(paper[2]) < len(demands_of(state, thing))
         self.assertGreater(at_odds_found, 5)
+
+    def test_groups_of_many_demands(self):
+        """The order in which the groups take the demands, and that all of a group are at odds, is seen in few states."""
+        unlike = 0
+        for state, view in scattered(220, 20):
+            for thing in state.things():
+                demands = demands_of(state, thing)
+                paper = gap_paper(state, thing) if len(demands) > 1 else None
+                if paper is not None and len(paper[2]) < len(demands):
+                    self.tells(view.told_groups(thing), paper[2])
+                    unlike += view.told_groups(thing, demands) != paper[2]
+        self.assertGreater(unlike, 0)
 
     def test_demands_at_odds(self):
         for state, view, thing in itertools.islice(self.cases(), 80):

@@ -29,6 +29,15 @@ class WrittenTest(Case):
             for number in ("1", "9", "10", "19", "50", "90", "99"):
                 self.assertIs(True, is_written(value=name + number))
 
+    def test_each_sign(self):
+        letters, figures = "abcdefghijklmnopqrstuvwxyz", "123456789"
+        for sign in [chr(code) for code in range(300)]:
+            self.assertIs(sign in letters, is_written(sign))
+            self.assertIs(sign in letters + figures, is_written("a" + sign))
+            self.assertIs(sign in figures + "0", is_written("a1" + sign))
+            self.assertIs(sign in figures, is_written("abcd" + sign))
+            self.assertIs(False, is_written("a12" + sign))
+
     def test_no_names(self):
         for name in ("", "1", "A", "aB", "abcde", "abcde1", "a0", "a01", "a00", "a100", "a101", "abcd100", "a1b", "1a",
                      "a 1", " a", "a ", "a\n", "a1\n", "a-1", "a+1", "a_", "?", "a.1", "\u00e4", "a\u00b2", "a\u0661",
@@ -53,7 +62,9 @@ class NamingTest(Case):
                 {(True, 0) if let == (1, 0) else let: name for let, name in NAMES.items()},
                 {(1, False) if let == (1, 0) else let: name for let, name in NAMES.items()},
                 {(1.0, 0) if let == (1, 0) else let: name for let, name in NAMES.items()},
-                {let: name for let, name in NAMES.items() if let != (8, 0)}]
+                {let: name for let, name in NAMES.items() if let != (8, 0)},
+                {(2, 0) if let == (8, 0) else let: name for let, name in NAMES.items()},
+                {ROOT if let == (8, 0) else let: name for let, name in NAMES.items()}]
         for value in (*bent, *STRANGE):
             self.assertIs(False, is_naming(STATE, value), value)
         self.assertIs(False, is_naming(EMPTY, NAMES))

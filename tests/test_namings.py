@@ -124,6 +124,7 @@ class WayTest(Case):
         state = State(made_of("(a =) ((b =) a) ((b =) a) (b =)"))
         naming = {(1, 0): "a", (3, 0): "b", (6, 0): "b", (8, 0): "b"}
         self.tells([(3, 0), (6, 0)], in_the_way(state, naming, (1, 0), "b"))
+        self.tells([(3, 0), (6, 0)], in_the_way(state, dict(reversed(naming.items())), (1, 0), "b"))
         self.tells([], in_the_way(state, naming, (8, 0), "a"))
         self.tells([(1, 0)], in_the_way(state, naming, (6, 0), "a"))
 

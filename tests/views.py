@@ -119,7 +119,8 @@ class View:
     def odds(self, thing, one, other):
         return one != other and not any({one, other} <= set(self.kept(thing, gap)) for gap in self.gaps(self.rest(thing)))
 
-    def told_groups(self, thing):
+    def told_groups(self, thing, order=None):
+        """The told groups; or those by another order of the demands."""
         rest = self.rest(thing)
         demands = self.demands(thing)
         first = [use for use in demands if use in rest.line]
@@ -127,7 +128,7 @@ class View:
                         key=lambda use: (rest.rank(self.contents[use]), use))
         kept = [set(self.kept(thing, gap)) for gap in self.gaps(rest)]
         groups = []
-        for use in first + others:
+        for use in order or first + others:
             for group in groups:
                 if not any({use, other} <= row for other in group for row in kept):
                     group.append(use)
