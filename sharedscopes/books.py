@@ -48,10 +48,7 @@ class Book:
             raise NoBody(None)
         first = max(self._last) + 1
         self._check_bodies((first, hand), bodies)
-        if len(self._rows) + len(bodies) > MOST_DEEDS:
-            raise TooMany(MOST_DEEDS)
-        if first + len(bodies) - 1 > MOST_TIME:
-            raise TooMany(MOST_TIME)
+        check_room(len(self._rows), first, len(bodies))
         last = list(self._last)
         more = []
         for at, body in enumerate(bodies):
@@ -116,6 +113,14 @@ def check_book(book):
         raise NoBook(book)
 
 
+def check_room(many, first, more):
+    """Refuse more deeds, done from the time first on behind so many, than there is room for."""
+    if many + more > MOST_DEEDS:
+        raise TooMany(MOST_DEEDS)
+    if first + more - 1 > MOST_TIME:
+        raise TooMany(MOST_TIME)
+
+
 def check_stamp(book, stamp):
     """Refuse what is no stamp of a deed of the book."""
     if stamp not in book:
@@ -124,13 +129,16 @@ def check_stamp(book, stamp):
 
 def check_stamps(book, stamps):
     """Refuse what is no list or tuple of unlike stamps of the book."""
+    check_among(stamps, book)
+
+
+def check_among(stamps, allowed):
+    """Refuse what is no list or tuple of unlike stamps that are in a Book, a list or a dict."""
     if not is_listing(stamps):
         raise NoStamps(None)
-    ahead = set()
     for at, stamp in enumerate(stamps):
-        if stamp not in book or stamp in ahead:
+        if not is_stamp(stamp) or stamp not in allowed or stamp in stamps[:at]:
             raise NoStamps(at)
-        ahead.add(stamp)
 
 
 def are_stamps(book, value):

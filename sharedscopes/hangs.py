@@ -1,10 +1,10 @@
 """What hangs on a deed: who would lose what by an undo, and what awaits a redo."""
 
-from sharedscopes.basics import is_like, is_listing, is_tuple_of
-from sharedscopes.books import are_stamps, check_book, check_stamp, makes_named
+from sharedscopes.basics import is_like, is_tuple_of
+from sharedscopes.books import are_stamps, check_among, check_book, check_stamp, makes_named
 from sharedscopes.courses import course_by
 from sharedscopes.deeds import does_mark
-from sharedscopes.errors import NoStamp, NoStamps
+from sharedscopes.errors import NoStamp
 from sharedscopes.marks import living
 
 
@@ -76,14 +76,7 @@ def accepts_hanger(book, stamps, value):
 def _check_alive(book, stamps):
     """Refuse what is no Book, then what is no list or tuple of unlike stamps of alive ordinary deeds."""
     check_book(book)
-    if not is_listing(stamps):
-        raise NoStamps(None)
-    alive = living(book, ())
-    ahead = set()
-    for at, stamp in enumerate(stamps):
-        if stamp not in book or stamp not in alive or stamp in ahead:
-            raise NoStamps(at)
-        ahead.add(stamp)
+    check_among(stamps, living(book, ()))
 
 
 def _found(book, stamps):

@@ -40,6 +40,19 @@ FUNCTIONS = {
         mended_naming(state,old,weights=None) in_the_way(state,naming,let,name)""",
     "grammar": "plain_of(text) is_text(value) spans_of(text) item_at(text,index)",
     "reading": "read_shape(text) meant_lets(text) made_of(text)",
+    "becoming": """told_pairs(book,text) least_number(book,text,pairs) bodies_for(book,hand,text,pairs)
+        does_become(book,hand,text,pairs,value) least_of_all(book,text)""",
+    "values": """value_of(state,thing) parts_of(state,thing) does_hang(state,one,other) values_of(state)
+        causes_of(state,thing) none_paper(state,thing) accepts_none(state,thing,value)""",
+    "useless": "needed_lets(state) useless_lets(state) use_paper(state,let) accepts_use(state,let,value)",
+    "polynomials": "is_polynomial(value) sum_of(one,other) product_of(one,other) value_at(polynomial,contents)",
+    "alike": """polynomial_of(state,thing) are_always(state,one,other) witness_of(state,one,other)
+        alike_paper(state,one,other) accepts_alike(state,one,other,value) profile_of(state,number,thing)
+        choices_of(state,use,thing) spare_by(state,let)""",
+    "reach": "reach_of(book,stamp) does_heal(book,stamps) healing_sets(book,menu)",
+    "horizons": """horizon_of(hands,hand) certain_deeds(hands,hand) fewest_messages(book,branches)
+        accepts_messages(book,branches,value)""",
+    "booktexts": "write_book(book) read_book(text) is_book_text(value) body_words(body) body_of(words)",
     "writing": "text_by(state,naming) text_of(state,weights=None) shape_of(state) are_alike(one,other)",
     "slots": """slot_of(deed) writes_of(deed) done_of(book,slot) rivals_of(book,slot) is_open(book,slot)
         open_slots(book) clashes_now(book) clashes(book)""",
@@ -52,7 +65,14 @@ METHODS = {
     ("states", "State"): """__init__(self,book,without=()) things(self) is_there(self,value) is_in(self,value)
         kind(self,thing) content(self,thing) place(self,thing) under(self,thing) holder(self,thing) below(self,thing)
         line(self) __eq__(self,other)""",
+    ("hands", "Hands"): """__init__(self,count) do(self,hand,body) back(self,hand) again(self,hand)
+        send(self,sender,taker,stamps=None) take(self,packet) lose(self,packet) ask(self,taker,sender) packets(self)
+        kept(self,hand) waiting(self,hand) lacking(self,hand) shown(self,hand) branch(self,hand) everything(self)
+        trial(self) trying(self,guest,*,kept=False) twin(self) __eq__(self,other)""",
+    ("console", "Console"): "__init__(self) run(self,line)",
 }
+
+PROPERTIES = {("hands", "Hands"): ["many"]}
 
 
 def defined(module):
@@ -83,6 +103,15 @@ class InterfaceTest(unittest.TestCase):
                 method = row.split("(")[0]
                 self.assertIn(method, methods)
                 self.assertEqual(row, shown(method, getattr(found, method)))
+
+    def test_properties(self):
+        for (module, name), rows in PROPERTIES.items():
+            found = vars(getattr(importlib.import_module(f"sharedscopes.{module}"), name))
+            for row in rows:
+                self.assertIsInstance(found[row], property)
+
+    def test_the_root(self):
+        self.assertEqual("(0, 0)", repr(importlib.import_module("sharedscopes.deeds").ROOT))
 
     def test_the_package_imports_nothing_by_itself(self):
         tree = ast.parse((PACKAGE / "__init__.py").read_text())
