@@ -140,10 +140,9 @@ def _from_parts(sheet, thing, found):
 
 def _witness(one, other):
     """The least contents of the variables by which two unlike polynomials have unlike values."""
-    factors = {variables: factor for variables, factor in one}
+    rest = {variables: factor for variables, factor in one}
     for variables, factor in other:
-        factors[variables] = (factors.get(variables, 0) - factor) % MODULUS
-    rest = {variables: factor for variables, factor in factors.items() if factor != 0}
+        rest[variables] = rest.get(variables, 0) - factor
     contents = []
     for variable in variables_in([one, other]):
         content = 0

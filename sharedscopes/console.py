@@ -161,7 +161,7 @@ def _read(line):
     if len(texts) != len(form):
         return word, None
     values = [_read_value(kind, text) for kind, text in zip(form, texts)]
-    return word, None if None in values else values
+    return word, (None if None in values else values)
 
 
 def _read_value(kind, text):

@@ -47,7 +47,6 @@ class Hands:
 
     def do(self, hand, body):
         """Let the hand do the body, and tell the stamp."""
-        self._check_hand(hand)
         shown = self.shown(hand)
         if not is_body(body) or not all([name in shown for name in names_in(body)]):
             raise NoBody(body)
@@ -55,7 +54,6 @@ class Hands:
 
     def back(self, hand):
         """Let the hand do its next undo, and tell the stamp of the mark."""
-        self._check_hand(hand)
         shown = self.shown(hand)
         stamp = next_undo(shown, hand)
         if stamp is None:
@@ -64,7 +62,6 @@ class Hands:
 
     def again(self, hand):
         """Let the hand do its next redo, and tell the stamp of the mark."""
-        self._check_hand(hand)
         shown = self.shown(hand)
         stamp = next_redo(shown, hand)
         if stamp is None:
@@ -100,7 +97,7 @@ class Hands:
 
     def packets(self):
         """The list of (number, sender, taker, stamps) of the packets on the way, by numbers."""
-        return sorted(list(self.post.sent.values()))
+        return list(self.post.sent.values())
 
     def kept(self, hand):
         """The stamps of the deeds that the hand keeps, ascending."""

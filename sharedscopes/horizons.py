@@ -3,7 +3,7 @@
 from sharedscopes.basics import is_from, is_listing, is_tuple_of
 from sharedscopes.books import check_book, has_seen
 from sharedscopes.branches import is_branch, joined_branch
-from sharedscopes.errors import NoBranches, NoHand, NoHands
+from sharedscopes.errors import NoBranches, NoHands
 from sharedscopes.hands import Hands
 
 
@@ -51,8 +51,6 @@ def _last_times(hands, hand):
     """For each of the hands the time of its last deed that the hand shows, 0 if there is none."""
     if not isinstance(hands, Hands):
         raise NoHands(hands)
-    if not is_from(hand, 0, hands.many - 1):
-        raise NoHand(hand)
     return hands.branch(hand)[:hands.many]
 
 

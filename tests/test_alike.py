@@ -191,6 +191,13 @@ class PaperTest(Case):
                      rows[:-1] + ((BA, (((A,), 1), ((B,), 9974))),), (last,), (rows[6], last), rows[:-1] + ((BA, None),)):
             self.assertIs(False, accepts_alike(PAIRS, AB, BA, ("alike", bent)), bent)
 
+    def test_rows_without_one_of_both(self):
+        _, rows = alike_paper(PAIRS, AB, BA)
+        self.tells((AB, BOTH), rows[6])
+        for one, other in ((AB, BA), (BA, AB)):
+            self.assertIs(False, accepts_alike(PAIRS, one, other, ("alike", rows[:6] + rows[7:])))
+            self.assertIs(False, accepts_alike(PAIRS, one, other, ("alike", rows[:-1])))
+
     def test_bent_unlike_papers(self):
         for variables, contents in (((A, B), (0, 0)), ((A, B), (0,)), ((A, B), (0, 1, 2)), ((A,), (1,)), ((B,), (1,)), ((B, A), (1, 0)),
                                     ([A, B], (0, 1)), ((A, B), [0, 1]), ((A, B), (0, 100)), ((A, B), (0, -1)), ((A, B), (0, True)),
@@ -354,6 +361,9 @@ class WrongTest(Case):
         for thing in PAIRS.line():
             if PAIRS.kind(thing) != "let":
                 self.refused(NoThing, thing, spare_by, PAIRS, thing)
+            # That it is no let is told ahead of its causes.
+            self.refused(NoThing, (2, 0), spare_by, BROKEN, (2, 0))
+            self.refused(NoThing, ROOT, spare_by, GREAT, ROOT)
             if PAIRS.kind(thing) != "number":
                 self.refused(NoThing, thing, profile_of, PAIRS, thing, None)
             if PAIRS.kind(thing) != "use":

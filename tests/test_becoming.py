@@ -146,6 +146,13 @@ class NumberTest(Case):
         self.tells(0, self.number(book, "1 2", (ONE, (0,)), (OTHER, (1,))))
         self.tells(1, self.number(book, "1 2 9", (ONE, (0,)), (OTHER, (1,))))
 
+    def test_equal_keys_behind_another_item(self):
+        book = Book().followed(0, [("make", "number", ROOT, 5, 1), ("make", "number", ROOT, 5, 2), ("make", "number", ROOT, 5, 3)])
+        self.tells(1, self.number(book, "9 1 2 3", (ONE, (1,)), (OTHER, (2,)), ((3, 0), (3,))))
+        self.tells(1, self.number(book, "1 3", (ONE, (0,)), ((3, 0), (1,))))
+        self.tells(2, self.number(book, "1 9 2 3", (ONE, (0,)), (OTHER, (2,)), ((3, 0), (3,))))
+        self.tells(1, self.number(book, "2 3", (OTHER, (0,)), ((3, 0), (1,))))
+
     def test_room_for_keys_ahead(self):
         self.tells(2, self.number("1", "9 1", (ONE, (1,))))
         book = Book().followed(0, [("make", "number", ROOT, 1, 1)])
@@ -162,6 +169,11 @@ class NumberTest(Case):
         for given in (pairs, pairs[::-1], tuple(pairs)):
             self.tells(0, least_number(TWO, "1 2", given))
         self.tells(0, least_number(book=TWO, text="1 2", pairs=pairs))
+
+
+    def test_names_that_are_words_of_the_program(self):
+        for name in ("lost", "use", "let", "sum"):
+            self.tells(3, self.number("", f"({name} = 1) {name}"))
 
 
 class BodiesTest(Case):
@@ -348,7 +360,8 @@ class WrongTest(Case):
         bent = [((1, 0), (2,)), ((1, 0), (1,)), ((2, 0), (0,)), ((5, 0), (1,)), ((2, 0), (2,)), (ROOT, ()), (ROOT, (1,)), ((2, 0), ()),
                 ((9, 0), (0,)), ((1, 0), (9,)), ((1, 0), (0, 0)), ((1, 0), [0]), [(1, 0), (0,)], ((1, 0), (0,), None), ((1, 0),),
                 ((1, False), (0,)), ((1, 0), (False,)), ((1, 0), (0.0,)), ((1, 0), (-3,)), ((1, 0), 0), ((1, 0), None), (None, (0,)),
-                ((1, 0), "0"), ((1, 0), (None,)), ((1, 0), ([0],)), (Likeness(), (0,)), ((1, 0), Likeness()), ((1, 0), (Likeness(),))]
+                ((3, 0), (1, False)), ((3, 0), (True, 0)), ((3, 0), (1, 0.0)), ((3, 0), (1, None)), ((3, 0), (1, [0])),
+                ((3, 0), (1, Likeness())), ((1, 0), "0"), ((1, 0), (None,)), ((1, 0), ([0],)), (Likeness(), (0,)), ((1, 0), Likeness()), ((1, 0), (Likeness(),))]
         for call in calls:
             for value in STRANGE:
                 if not isinstance(value, (list, tuple)):
@@ -380,6 +393,10 @@ class RandomTest(Case):
         for seed in range(many):
             rng = random.Random(f"becoming {seed}")
             book = random_book(f"becoming {seed}", room, turns)
+            if seed % 3 == 2:
+                # With other keys, several of them alike.
+                book = book.followed(0, [("move", stamp, book[stamp][2][2], rng.choice([0, 1, 1, 2, 5]))
+                                         for stamp in book if book[stamp][2][0] == "make" and rng.random() < 0.7])
             text = plain(random_text(f"target {seed}", other, lost=0))
             if seed % 2:
                 text = self.bent(rng, plain(random_text(f"broken becoming {seed}", room)), text)

@@ -551,6 +551,29 @@ class TwinTest(Case):
         other.do(0, make("sum"))
         self.assertFalse(one == other)
 
+    def test_equal_packets(self):
+        for packets in itertools.permutations([(0, 1, [(1, 0)]), (0, 2, [(1, 0)]), (0, 1, [(2, 0)]), (1, 0, [(1, 0)])], 2):
+            one, other = trio(), trio()
+            one.send(*packets[0])
+            other.send(*packets[1])
+            self.assertFalse(one == other)
+            one.send(*packets[1])
+            other.send(*packets[0])
+            self.assertFalse(one == other)
+            for hands in (one, other):
+                hands.lose(1)
+                hands.lose(2)
+            self.assertTrue(one == other)
+
+    def test_packets_by_numbers_behind_trials(self):
+        hands = trio()
+        hands.send(0, 1)
+        with hands.trial():
+            hands.lose(0)
+            hands.send(1, 0)
+        hands.send(0, 2)
+        self.tells([0, 1, 2], [row[0] for row in hands.twin().packets()])
+
 
 class ExampleTest(Case):
     def test_the_example(self):

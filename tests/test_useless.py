@@ -84,6 +84,10 @@ class PaperTest(Case):
         state = State(made_of("(b = 2) (d = b) b b"))
         self.tells(("needed", (((1, 0), (5, 0)),)), use_paper(state, (1, 0)))
 
+    def test_the_least_use_and_not_the_first_of_the_line(self):
+        book = made_of("(b = 2) b b").followed(0, [("move", (3, 0), ROOT, 9)])
+        self.tells(("needed", (((1, 0), (3, 0)),)), use_paper(State(book), (1, 0)))
+
     def test_a_let_of_one_round_does_not_serve_in_it(self):
         # The use of a in b stands once b does, so a comes behind b though it is less.
         state = State(made_of("(a =) (b = a) (c =) b c"))
@@ -112,6 +116,14 @@ class AcceptsTest(Case):
                      ((B, (11, 0)), (A, Likeness())), ((B, (11, 0)), Likeness()), ((B, (11, 0)), (A, (99, 0))),
                      ((B, (11, 0)), (A, ROOT)), (B, (11, 0), A, (4, 0)), {B: (11, 0), A: (4, 0)}):
             self.assertIs(False, accepts_use(CHAIN, A, ("needed", bent)), bent)
+
+    def test_uses_of_other_lets(self):
+        for bent in (((B, (11, 0)), (A, (11, 0))), ((A, (11, 0)),), ((B, (11, 0)), (C, (11, 0)), (A, (4, 0)))):
+            self.assertIs(False, accepts_use(CHAIN, A, ("needed", bent)), bent)
+
+    def test_other_words(self):
+        for word in ("needless", "needed", None, b"useless", 0, Likeness(), ("useless",)):
+            self.assertIs(False, accepts_use(CHAIN, C, (word, (C, D))), word)
 
     def test_bent_useless_papers(self):
         self.assertIs(True, accepts_use(CHAIN, C, ("useless", (C, D))))
@@ -198,6 +210,8 @@ class RandomTest(Case):
                     row = tuple(rng.sample(pairs, rng.randint(0, min(4, len(pairs)))))
                     if rng.random() < 0.5:
                         row = tuple(told_pairs(view)[:rng.randint(1, 5)])
+                    if rng.random() < 0.3 and row:
+                        row = row[:-1] + ((rng.choice(view.lets), row[-1][1]),)
                     lot = tuple(sorted(rng.sample(view.lets, rng.randint(1, len(view.lets)))))
                     if rng.random() < 0.5:
                         lot = tuple(one for one in view.lets if one not in needed_by(view, view.lets) or one == let)

@@ -119,6 +119,10 @@ class NoneTest(Case):
         self.tells([(3, 0)], causes_of(self.STATE, (3, 0)))
         self.tells([], causes_of(EMPTY, ROOT))
 
+    def test_causes_ascending(self):
+        moved = made_of("(+ ? ?)").followed(0, [("move", (2, 0), (1, 0), 9)])
+        self.tells([(2, 0), (3, 0)], causes_of(State(moved), ROOT))
+
     def test_told_papers(self):
         self.tells(("none", (ROOT, (9, 0), (11, 0), (1, 0), (5, 0), (6, 0))), none_paper(self.STATE, ROOT))
         self.tells(("none", ((5, 0), (6, 0))), none_paper(state=self.STATE, thing=(5, 0)))
